@@ -1,0 +1,1 @@
+"""Leadersplice: the cutting room of a film's negative."""
