@@ -1,9 +1,10 @@
-"""What a whole number, a name, figures and an edge number's letters are."""
+"""What a whole number, a name, a number's text, figures and an edge number's letters are."""
 
 GREAT_LETTERS = "ABCDEFGHIJKLMNOPQRSTUVWXYZ"
 SMALL_LETTERS = "abcdefghijklmnopqrstuvwxyz"
 FIGURES = "0123456789"
 LONGEST_NAME = 8
+LONGEST_NUMBER = 9
 
 
 def is_whole(value):
@@ -26,3 +27,9 @@ def are_letters(value):
 
 def is_name(value):
     return isinstance(value, str) and 1 <= len(value) <= LONGEST_NAME and has_only(value, SMALL_LETTERS)
+
+
+def is_number(text):
+    if not 1 <= len(text) <= LONGEST_NUMBER or not are_figures(text):
+        return False
+    return text == "0" or text[0] != "0"

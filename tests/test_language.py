@@ -16,6 +16,10 @@ OWN_NAMES = """len range enumerate zip min max sum abs sorted reversed int str b
 OWN_METHODS = """append clear copy count endswith extend find get index insert isalnum isalpha isdigit islower isspace
     isupper items join keys ljust lower lstrip partition pop remove replace reverse rfind rjust rpartition rsplit
     rstrip setdefault split splitlines startswith strip update upper values zfill bit_length""".split()
+KEYWORDS = {"sorted": ("key", "reverse"), "min": ("key", "default"), "max": ("key", "default"), "sum": ("start",),
+            "enumerate": ("start",), "zip": ("strict",)}
+WALKED = "zip enumerate reversed range items keys values".split()
+WALKERS = "list tuple dict sorted sum any all enumerate zip min max".split()
 DUNDERS = "__init__ __eq__ __repr__ __str__ __len__".split()
 UNUSED_NAMES = """register mro elements open input version_info with_traceback add_note format format_map attrgetter
     breakpoint builtins compile copyright credits delattr dir eval exec exit gc getattr globals hasattr help id
@@ -48,6 +52,22 @@ def bound_within(function):
     arguments = [node.arg for node in nodes(function, ast.arg)]
     stored = [node.id for node in nodes(function, ast.Name) if isinstance(node.ctx, ast.Store)]
     return arguments + stored
+
+
+def called(node):
+    """The name that a call calls, a function's or a method's."""
+    return getattr(node.func, "id", getattr(node.func, "attr", None))
+
+
+def walked_on_the_spot(tree):
+    """All that stands where L23 lets something be walked."""
+    spots = [node.iter for node in nodes(tree, ast.For, ast.comprehension)]
+    for node in nodes(tree, ast.Call):
+        if called(node) in WALKERS and isinstance(node.func, ast.Name):
+            spots.extend(node.args if called(node) == "zip" else node.args[:1])
+        elif called(node) == "join" and isinstance(node.func.value, ast.Constant):
+            spots.extend(node.args)
+    return spots
 
 
 class Language(unittest.TestCase):
@@ -87,7 +107,7 @@ class Language(unittest.TestCase):
             docstring = node is self.trees[name].body[0] and isinstance(node.value, ast.Constant)
             self.good("L3, L6", docstring or isinstance(node.value, ast.Call), name, node)
         for name, node in self.each(ast.Assign):
-            self.good("L6", len(node.targets) == 1, name, node)
+            self.good("L6", len(node.targets) == 1 and not isinstance(node.targets[0], ast.Tuple), name, node)
         for name, node in self.each(ast.For, ast.While):
             self.good("L6", not node.orelse, name, node)
         for name, node in self.each(ast.Try):
@@ -167,3 +187,47 @@ class Language(unittest.TestCase):
         for name, node in self.each(ast.BinOp):
             if isinstance(node.op, ast.Pow):
                 self.good("L27", isinstance(node.right, ast.Constant), name, node)
+
+    def test_keywords(self):
+        for name, node in self.each(ast.Call):
+            if hasattr(builtins, called(node)) or called(node) in OWN_METHODS:
+                given = [keyword.arg for keyword in node.keywords]
+                self.good("L22", all(word in KEYWORDS.get(called(node), ()) for word in given), name, node)
+
+    def test_own_names_are_called(self):
+        for name, tree in self.trees.items():
+            heads = [node.func for node in nodes(tree, ast.Call)]
+            heads.extend(kind for node in nodes(tree, ast.Call) if called(node) == "isinstance"
+                         for kind in nodes(node.args[1], ast.Name))
+            heads.extend(kind for node in nodes(tree, ast.ExceptHandler) for kind in nodes(node.type, ast.Name))
+            heads.extend(base for node in nodes(tree, ast.ClassDef) for base in node.bases)
+            heads.extend(keyword.value for keyword in nodes(tree, ast.keyword) if keyword.arg == "key")
+            for node in nodes(tree, ast.Name):
+                self.good("L18, L22", not hasattr(builtins, node.id) or node in heads, name, node)
+            for node in nodes(tree, ast.Attribute):
+                self.good("L25", node.attr not in OWN_METHODS or node in heads, name, node)
+
+    def test_walked_at_once(self):
+        for name, tree in self.trees.items():
+            spots = walked_on_the_spot(tree)
+            for node in nodes(tree, ast.Call):
+                self.good("L23", called(node) not in WALKED or node in spots, name, node)
+
+    def test_no_sets(self):
+        for name, node in self.each(ast.Set, ast.Call):
+            kept = isinstance(node, ast.Set) or called(node) in ("set", "frozenset")
+            self.good("L13, L24", not kept, name, node)
+
+    def test_errors_are_made_on_the_spot(self):
+        for name, node in self.each(ast.Raise):
+            self.good("L19", isinstance(node.exc, ast.Call) and node.cause is None, name, node)
+
+    def test_what_stands_at_the_top(self):
+        for name, tree in self.trees.items():
+            for node in tree.body[1:]:
+                plain = isinstance(node, (ast.ImportFrom, ast.FunctionDef, ast.ClassDef, ast.Assign))
+                self.good("L3", plain, name, node)
+            for node in tree.body:
+                if isinstance(node, ast.Assign):
+                    made = nodes(node.value, ast.Call, ast.ListComp, ast.BinOp, ast.Lambda, ast.Attribute)
+                    self.good("L3", not made, name, node)
