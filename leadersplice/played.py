@@ -10,8 +10,7 @@ MOST_FRAMES = 2000
 def played(items, parts, reels):
     sound(items, parts, reels)
     clips = clips_of(items, parts)
-    refuse_many(sum([frames_in(clip) for clip in clips]), MOST_FRAMES)
-    refuse_short(clips)
+    refuse_film(clips)
     return clips
 
 
@@ -58,6 +57,12 @@ def backwards(clips):
 
 def frames_in(clip):
     return abs(clip[2] - clip[1]) + 1
+
+
+def refuse_film(clips):
+    refuse_many(len(clips), MOST_CLIPS)
+    refuse_many(sum([frames_in(clip) for clip in clips]), MOST_FRAMES)
+    refuse_short(clips)
 
 
 def refuse_many(number, most):

@@ -15,7 +15,8 @@ def wants(strip, spoil, frame):
 
 # Taken by their least frames, each strip gets the first print that is free
 # there. Each print passed over has a strip that wants this very frame, so no
-# strip's print is beyond what the strips that it hangs together with need.
+# strip's print is beyond what the strips that it hangs together with need,
+# and no other strips have a part in it: the bench keeps prints by that.
 def prints_for(strips, spoil):
     prints = [0] * len(strips)
     taken = {}

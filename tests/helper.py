@@ -1,4 +1,4 @@
-"""What several tests need: parts by their texts, a refusal to look at, drawn films and all their cuttings."""
+"""What several tests need: parts by their texts, a refusal to look at, drawn films, cuttings, and wanted frames."""
 
 from leadersplice.errors import SpliceError
 from leadersplice.listtexts import read_list, show_list
@@ -69,3 +69,39 @@ def cuttings(row):
             break
         for rest in cuttings(row[end:]):
             yield [(row[0][0], row[0][1], row[end - 1][1], row[0][2])] + rest
+
+
+def drawn_cutting(chance, clips):
+    """One cutting of the clips; some strips go as far as they can, others less far."""
+    row = frames_with_fades(clips)
+    strips = []
+    while row:
+        ends = [end for end in range(1, len(row) + 1) if is_strip(row[:end])]
+        end = chance.choice(ends[-1:] * len(ends) + ends)
+        strips.append((row[0][0], row[0][1], row[end - 1][1], row[0][2]))
+        row = row[end:]
+    return strips
+
+
+def wanted(strip, spoil):
+    """All frames that a strip wants, with its reel, one by one."""
+    low, high = sorted(strip[1:3])
+    return {(strip[0], frame) for frame in range(low, high + 1)} | {(strip[0], high + k) for k in range(1, spoil + 1)}
+
+
+def heaps(strips, spoil):
+    """The numbers of the strips that hang together, heap by heap."""
+    found = []
+    for number, strip in enumerate(strips):
+        wants = wanted(strip, spoil)
+        near = [heap for heap in found if any(wants & wanted(strips[k], spoil) for k in heap)]
+        found = [heap for heap in found if heap not in near] + [sum(near, []) + [number]]
+    return found
+
+
+def most_at_once(strips, spoil):
+    counts = {}
+    for strip in strips:
+        for frame in wanted(strip, spoil):
+            counts[frame] = counts.get(frame, 0) + 1
+    return max(counts.values(), default=0)

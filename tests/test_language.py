@@ -231,3 +231,57 @@ class Language(unittest.TestCase):
                 if isinstance(node, ast.Assign):
                     made = nodes(node.value, ast.Call, ast.ListComp, ast.BinOp, ast.Lambda, ast.Attribute)
                     self.good("L3", not made, name, node)
+
+    def test_lists_and_dicts_of_the_top_are_only_read(self):
+        for name, tree in self.trees.items():
+            kept = [node for node in tree.body if isinstance(node, ast.Assign) and isinstance(node.value, (ast.List, ast.Dict))]
+            for node in kept:
+                inner = [value for value in nodes(node.value, ast.List, ast.Dict) if value is not node.value]
+                self.good("L15", not inner, name, node)
+            names = [node.targets[0].id for node in kept]
+            spots = walked_on_the_spot(tree)
+            spots.extend(node.value for node in nodes(tree, ast.Subscript) if isinstance(node.ctx, ast.Load))
+            spots.extend(side for node in nodes(tree, ast.Compare) for side in node.comparators)
+            spots.extend(node.args[0] for node in nodes(tree, ast.Call) if called(node) == "len")
+            spots.extend(node.value for node in nodes(tree, ast.Attribute) if node.attr in ("get", "items", "keys", "values"))
+            for node in nodes(tree, ast.Name):
+                if node.id in names and isinstance(node.ctx, ast.Load):
+                    self.good("L15", node in spots, name, node)
+
+    def test_methods_and_values_of_objects(self):
+        pythons = {name for kind in (str, int, list, tuple, dict, set, bytes) for name in dir(kind)}
+        methods = set()
+        for name, node in self.each(ast.ClassDef):
+            own = [inner.name for inner in node.body if isinstance(inner, ast.FunctionDef)]
+            self.good("L18", len(own) == len(set(own)), name, node)
+            methods.update(own)
+            for inner in node.body:
+                if isinstance(inner, ast.FunctionDef) and inner.name == "__init__":
+                    self.good("L28", not nodes(inner, ast.Return), name, inner)
+                if isinstance(inner, ast.FunctionDef) and inner.name not in DUNDERS:
+                    self.good("L26", inner.name not in pythons or inner.name in OWN_METHODS, name, inner)
+        for name, node in self.each(ast.Attribute):
+            if isinstance(node.ctx, ast.Store):
+                self.good("L18", node.attr not in methods and isinstance(node.value, ast.Name), name, node)
+                self.good("L26", node.attr not in pythons and node.attr != "args", name, node)
+
+    def test_classes_are_called_or_named_in_their_places(self):
+        classes = {node.name for _, node in self.each(ast.ClassDef)}
+        for name, tree in self.trees.items():
+            heads = [node.func for node in nodes(tree, ast.Call)]
+            heads.extend(base for node in nodes(tree, ast.ClassDef) for base in node.bases)
+            heads.extend(kind for node in nodes(tree, ast.ExceptHandler) for kind in nodes(node.type, ast.Name))
+            heads.extend(kind for node in nodes(tree, ast.Call) if called(node) == "isinstance"
+                         for kind in nodes(node.args[1], ast.Name))
+            for node in nodes(tree, ast.Name):
+                self.good("L18", node.id not in classes or node in heads, name, node)
+
+    def test_what_a_loop_walks_is_not_changed_in_it(self):
+        changing = "append clear extend insert pop remove reverse setdefault update".split()
+        for name, node in self.each(ast.For):
+            walked = {ast.unparse(inner) for inner in ast.walk(node.iter) if isinstance(inner, (ast.Name, ast.Attribute))}
+            for inner in [found for row in node.body for found in ast.walk(row)]:
+                if isinstance(inner, ast.Call) and isinstance(inner.func, ast.Attribute) and inner.func.attr in changing:
+                    self.good("L23", ast.unparse(inner.func.value) not in walked, name, inner)
+                if isinstance(inner, ast.Subscript) and isinstance(inner.ctx, ast.Store):
+                    self.good("L23", ast.unparse(inner.value) not in walked, name, inner)

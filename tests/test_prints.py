@@ -10,36 +10,12 @@ from leadersplice.lists import turned
 from leadersplice.played import played
 from leadersplice.prints import cuts, needs, prints_for, reasons
 from leadersplice.strips import strips_of
-from tests.helper import cuttings, drawn_clips, drawn_text, frames_with_fades, refusal_of
+from tests.helper import cuttings, drawn_clips, drawn_text, frames_with_fades, heaps, most_at_once, refusal_of, wanted
 
 REELS = [("a", "AB", 100, 60), ("b", "AB", 0, 60)]
 # One chain in which, taken in this order, each to the first print that is
 # free for it, the last strip would come to a third print.
 CHAIN = [("a", 0, 3, 0), ("a", 9, 12, 0), ("a", 3, 6, 0), ("a", 6, 9, 0)]
-
-
-def wanted(strip, spoil):
-    """All frames that a strip wants, with its reel, one by one."""
-    low, high = sorted(strip[1:3])
-    return {(strip[0], frame) for frame in range(low, high + 1)} | {(strip[0], high + k) for k in range(1, spoil + 1)}
-
-
-def heaps(strips, spoil):
-    """The numbers of the strips that hang together, heap by heap."""
-    found = []
-    for number, strip in enumerate(strips):
-        wants = wanted(strip, spoil)
-        near = [heap for heap in found if any(wants & wanted(strips[k], spoil) for k in heap)]
-        found = [heap for heap in found if heap not in near] + [sum(near, []) + [number]]
-    return found
-
-
-def most_at_once(strips, spoil):
-    counts = {}
-    for strip in strips:
-        for frame in wanted(strip, spoil):
-            counts[frame] = counts.get(frame, 0) + 1
-    return max(counts.values(), default=0)
 
 
 def fewest_prints(strips, spoil):
